@@ -1,0 +1,1 @@
+"""A typist that learns: words typed on keys with several letters each."""
