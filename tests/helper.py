@@ -1,4 +1,4 @@
-"""Calls written shortly, and their answers as one number each."""
+"""Calls written shortly, and their answers as one number or one text each."""
 
 import unittest
 
@@ -6,6 +6,11 @@ from wordkeysdesk.typist import answers
 
 NEXT = [3]
 TAKE = [4]
+BACK = [5]
+GUESS = [6]
+TEXT = [8]
+LIST = [9]
+TELLING = (GUESS, TEXT, LIST)
 MILLION = 1000000
 
 LETTERS_ON_KEYS = {
@@ -29,6 +34,14 @@ def key(k):
     return [2, k]
 
 
+def row(keys):
+    return [7, len(keys)] + list(keys)
+
+
+def row_of(words):
+    return row(keys_of(words))
+
+
 def keys_of(word):
     return [k for letter in word for k in LETTERS_ON_KEYS if letter in LETTERS_ON_KEYS[k]]
 
@@ -38,15 +51,24 @@ def typed(word):
 
 
 def run(*calls):
-    """The answers of calls that each answer one number."""
-    handed = [number for call in calls for number in call]
-    told = answers(handed)
-    numbers = told[1::2]
-    if told != [part for number in numbers for part in (1, number)]:
-        raise AssertionError(f"not one number for each call: {told}")
-    if len(numbers) != len(calls):
-        raise AssertionError(f"{len(calls)} calls, {len(numbers)} answers")
-    return numbers
+    """The answers: a number each; of guess, text and list, where not refused, the text that's told."""
+    told = answers([number for call in calls for number in call])
+    answered = []
+    position = 0
+    for call in calls:
+        numbers = told[position + 1:position + 1 + told[position]]
+        position += 1 + told[position]
+        answered.append(one_answer(call, numbers))
+    if position != len(told):
+        raise AssertionError(f"{len(calls)} calls, but more answers: {told}")
+    return answered
+
+
+def one_answer(call, numbers):
+    telling = call in TELLING and numbers[0] >= 0
+    if len(numbers) != (1 + numbers[0] if telling else 1):
+        raise AssertionError(f"call {call} answers {numbers}")
+    return bytes(numbers[1:]).decode("latin-1") if telling else numbers[0]
 
 
 def last(*calls):
@@ -70,6 +92,12 @@ def lines(words, count):
 
 class CallsCase(unittest.TestCase):
 
+    def assert_like(self, told, expected, why=""):
+        """Tells the first difference alone: to tell all of two long lists takes unittest minutes."""
+        for place, (one, other) in enumerate(zip(told, expected)):
+            self.assertEqual(one, other, f"at {place} {why}")
+        self.assertEqual(len(told), len(expected), why)
+
     def assert_taken(self, calls, word, others):
         """The calls end with the take of word, which had the count 999,999 before.
 
@@ -86,6 +114,10 @@ class CallsCase(unittest.TestCase):
             [TAKE] + typed("b") + [TAKE],
             [key(2)] * 13,
             [learn("zz", 5), learn("a", 7), TAKE, learn("zz", 5)],
+            [GUESS, TEXT, LIST, NEXT, GUESS, NEXT, GUESS, TEXT, LIST],
+            [TAKE, TEXT, LIST, BACK, GUESS, LIST],
+            [key(2), GUESS, BACK, GUESS] + [BACK] * 14 + [GUESS, TEXT, LIST],
+            [row([2, 2]), TEXT, LIST],
         ]
         self.assertEqual(last(*before, refused), refusal)
         for probe in probes:

@@ -29,6 +29,8 @@ METHODS = set(
     " isupper items join keys ljust lower lstrip partition pop remove replace reverse rfind rjust rpartition"
     " rsplit rstrip setdefault split splitlines startswith strip update upper values zfill bit_length".split()
 )
+WALKED = ("zip", "enumerate", "reversed", "range", "items", "keys", "values")
+WALKING = ("list", "tuple", "dict", "sorted", "sum", "any", "all", "enumerate", "zip", "min", "max")
 WORDS_NOWHERE = (
     r"\b(type|typing|typing_extensions|enum|Enum|IntEnum|StrEnum|Flag|IntFlag|Generic|Protocol|ABC|ABCMeta"
     r"|namedtuple|NamedTuple|TypedDict|TYPE_CHECKING|abstractmethod)\b|dataclass|overload|contextmanager"
@@ -112,6 +114,54 @@ class Language(unittest.TestCase):
             for node in nodes(path, ast.Name):
                 self.assertIn(node.id, bound | PYTHONS_OWN)
                 self.assertRegex(node.id, r"^[A-Za-z][A-Za-z0-9_]*$")
+
+    def test_each_name_once_at_the_top(self):
+        for path in FILES:
+            names = []
+            for node in ast.parse(path.read_text()).body:
+                if isinstance(node, (ast.FunctionDef, ast.ClassDef)):
+                    names.append(node.name)
+                if isinstance(node, ast.Assign):
+                    names.extend(target.id for target in node.targets)
+                if isinstance(node, ast.ImportFrom):
+                    names.extend(name.asname or name.name for name in node.names)
+            self.assertEqual(len(names), len(set(names)), path.name)
+
+    def test_no_two_files_draw_from_one_another(self):
+        draws = {path.stem: {node.module.split(".")[1] for node in nodes(path, ast.ImportFrom)} for path in FILES}
+        while draws:
+            free = [name for name in draws if not draws[name] & set(draws)]
+            self.assertTrue(free, draws)
+            for name in free:
+                draws.pop(name)
+
+    def test_statements_that_are_only_a_value(self):
+        for path in FILES:
+            values = [node for node in nodes(path, ast.Expr) if not isinstance(node.value, ast.Call)]
+            self.assertEqual([node.lineno for node in values], [1], path.name)
+
+    def test_walked_at_once(self):
+        for path in FILES:
+            walked = [node.iter for node in nodes(path, (ast.For, ast.comprehension))]
+            for call in nodes(path, ast.Call):
+                if isinstance(call.func, ast.Name) and call.func.id in WALKING:
+                    walked.extend(call.args[:1])
+            places = [(node.lineno, node.col_offset) for node in walked]
+            for call in nodes(path, ast.Call):
+                name = call.func.id if isinstance(call.func, ast.Name) else call.func.attr
+                if name in WALKED:
+                    self.assertIn((call.lineno, call.col_offset), places, path.name)
+
+    def test_is_and_powers_and_texts(self):
+        for path in FILES:
+            self.assertEqual(nodes(path, ast.Pow), [])
+            for node in nodes(path, ast.Compare):
+                for sign, value in zip(node.ops, node.comparators):
+                    if isinstance(sign, (ast.Is, ast.IsNot)):
+                        self.assertIsInstance(value, ast.Constant)
+                        self.assertIn(type(value.value), (type(None), bool))
+            for node in nodes(path, ast.Constant):
+                self.assertFalse(isinstance(node.value, str) and "%" in node.value)
 
     def test_methods_and_values(self):
         self.assertEqual(own_methods() & own_values(), set())

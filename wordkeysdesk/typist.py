@@ -7,6 +7,11 @@ LEARN = 1
 KEY = 2
 NEXT = 3
 TAKE = 4
+BACK = 5
+GUESS = 6
+ROW = 7
+TEXT = 8
+LIST = 9
 
 
 class UnknownCall(ValueError):
@@ -48,6 +53,16 @@ def answer_call(desk, reader):
         return [desk.show_next()]
     if call == TAKE:
         return [desk.take()]
+    if call == BACK:
+        return [desk.go_back()]
+    if call == GUESS:
+        return desk.guess()
+    if call == ROW:
+        return [desk.part_row(reader.read_row())]
+    if call == TEXT:
+        return desk.tell_text()
+    if call == LIST:
+        return desk.tell_list()
     raise UnknownCall(call)
 
 

@@ -80,3 +80,22 @@ def add_line(line, counts):
         return False
     counts[word] = count
     return True
+
+
+def write_text(words):
+    signs = []
+    for word in words:
+        if len(signs) > 0:
+            signs.append(BLANK)
+        signs.extend(word)
+    return signs
+
+
+def write_list(counts):
+    signs = []
+    for word in in_order(list(counts), counts):
+        signs.extend(word)
+        signs.append(BLANK)
+        signs.extend([ord(digit) for digit in str(counts[word])])
+        signs.append(LINE_END)
+    return signs
